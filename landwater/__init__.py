@@ -1,0 +1,1 @@
+"""Water over land, whole."""
