@@ -1,6 +1,6 @@
-"""The board: land with water on it, row by row, and the calls that change it."""
+"""The board: land with water on it, row by row, and the calls on it."""
 
-from landwater.flow import flow
+from landwater.flow import flow, flows_among, level
 
 # The refusals, as the document numbers them.
 NOT_DONE = -11
@@ -68,13 +68,44 @@ class Land:
 
     def wl_rain(self, x, y, k):
         """Let k fall on a place when the sweep is turned."""
-        if x >= self.width or y >= self.height:
+        if not self.has(x, y):
             return NOT_ALLOWED
         if self.fallen + k > MOST:
             return NO_ROOM
         self.rain[self.place(x, y)] += k
         self.fallen += k
         return 0
+
+    def wl_cell(self, x, y):
+        """List a place's ground and its water now, or refuse."""
+        if not self.has(x, y):
+            return NOT_ALLOWED
+        here = self.place(x, y)
+        return [self.ground[here], self.water_now()[here]]
+
+    def wl_highest(self):
+        """Give the highest level of places that have water now."""
+        levels = [level(ground, water) for ground, water in zip(self.ground, self.water_now()) if water > 0]
+        return max(levels, default=0)
+
+    def wl_still(self):
+        """Tell by 1 that nothing flows anywhere by what is there now, else by 0."""
+        now = self.water_now()
+        levels = [level(ground, water) for ground, water in zip(self.ground, now)]
+        # Places above one another stand a width apart in the lists.
+        if flows_among(now, levels, self.width):
+            return 0
+        # Each row by itself: its last place is not beside the first place of the row below.
+        for y in range(self.height):
+            first = self.place(0, y)
+            behind = first + self.width
+            if flows_among(now[first:behind], levels[first:behind], 1):
+                return 0
+        return 1
+
+    def has(self, x, y):
+        """Tell if a place is on the land."""
+        return x < self.width and y < self.height
 
     def water_now(self):
         """Give the water that lies there now."""

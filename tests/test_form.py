@@ -79,6 +79,19 @@ class FormTest(unittest.TestCase):
                 if isinstance(node, ast.arg):
                     self.assertFalse(hasattr(builtins, node.arg), node.arg)
 
+    def test_locals_have_names_of_their_own(self):
+        for text in self.each_file():
+            tree = ast.parse(text)
+            taken = {node.name for node in tree.body if isinstance(node, ast.ClassDef)}
+            for node in tree.body:
+                if isinstance(node, ast.ImportFrom):
+                    taken |= {one.name for one in node.names}
+            for node in ast.walk(tree):
+                if isinstance(node, ast.arg):
+                    self.assertNotIn(node.arg, taken)
+                if isinstance(node, ast.Name) and isinstance(node.ctx, ast.Store):
+                    self.assertNotIn(node.id, taken)
+
 
 if __name__ == "__main__":
     unittest.main()

@@ -2,7 +2,7 @@
 
 import unittest
 
-from helpers import MOST, WORK, land, numbers, start, sweep
+from helpers import WORK, land, numbers, start, sweep
 from landwater.board import answers
 
 
@@ -80,53 +80,15 @@ class WorkTest(unittest.TestCase):
         sweep(board)
         self.assertEqual(board.water_now(), [0, 100, 600, 0, 0, 100])
 
-
-class CornerTest(unittest.TestCase):
-    def check_steps(self, width, height, ground, steps):
-        board = land(width, height, ground, steps[0])
-        for water in steps[1:]:
-            sweep(board)
-            self.assertEqual(board.water_now(), water)
-        self.assertEqual(board.ground, ground)
-
-    def test_one_place(self):
-        self.check_steps(1, 1, [7], [[MOST], [MOST], [MOST]])
-
-    def test_one_row(self):
-        self.check_steps(4, 1, [0] * 4, [[0, 64, 0, 0], [8, 48, 8, 0], [13, 38, 12, 1]])
-
-    def test_one_column(self):
-        self.check_steps(1, 4, [0] * 4, [[0, 64, 0, 0], [8, 48, 8, 0], [13, 38, 12, 1]])
-
-    def test_pit_beside_a_wall(self):
-        self.check_steps(3, 1, [MOST, 0, MOST], [[0, 100, 0], [0, 100, 0]])
-        self.check_steps(2, 1, [MOST, 0], [[100, 0], [75, 25], [57, 43]])
-        self.check_steps(2, 1, [MOST, 0], [[MOST, 0], [MOST - 2 ** 28, 2 ** 28]])
-
-    def test_water_on_a_slope(self):
-        self.check_steps(3, 1, [200, 100, 0], [[3, 0, 0], [3, 0, 0]])
-        self.check_steps(3, 1, [200, 100, 0], [[4, 0, 0], [3, 1, 0], [3, 1, 0]])
-
     def test_differences_of_7_and_8(self):
-        self.check_steps(2, 1, [0, 0], [[7, 0], [7, 0]])
-        self.check_steps(2, 1, [0, 0], [[8, 0], [7, 1], [7, 1]])
-        self.check_steps(1, 2, [0, 13], [[0, 4], [1, 3]])
-        self.check_steps(1, 2, [9, 4], [[0, 12], [0, 12]])
-        self.check_steps(1, 2, [9, 4], [[0, 13], [1, 12]])
-
-    def test_all_water_in_one_corner(self):
-        for corner, one, other in ((0, 1, 2), (1, 0, 3), (2, 0, 3), (3, 1, 2)):
-            first = [0] * 4
-            first[corner] = MOST
-            after = [0] * 4
-            after[corner] = MOST - 2 * (MOST // 8)
-            after[one] = after[other] = MOST // 8
-            self.check_steps(2, 2, [0] * 4, [first, after])
-
-    def test_island_in_a_lake(self):
-        ground = [0, 0, 0, 0, 500, 0, 0, 0, 0]
-        lake = [40, 40, 40, 40, 0, 40, 40, 40, 40]
-        self.check_steps(3, 3, ground, [lake, lake])
+        for ground, water, after in (([0, 0], [7, 0], [7, 0]), ([0, 0], [8, 0], [7, 1]), ([0, 13], [0, 4], [1, 3]),
+                                     ([9, 4], [0, 12], [0, 12]), ([9, 4], [0, 13], [1, 12])):
+            for width, height in ((2, 1), (1, 2)):
+                with self.subTest(ground=ground, water=water, width=width):
+                    board = land(width, height, ground, water)
+                    sweep(board)
+                    self.assertEqual(board.water_now(), after)
+                    self.assertEqual(board.ground, ground)
 
 
 if __name__ == "__main__":
